@@ -1,0 +1,1 @@
+"""Cells that share lines: layouts, programs, and what their runs cost."""
