@@ -1,14 +1,17 @@
-"""What layouts and programs ask of the values that they are passed."""
+"""What the package asks of the values that it is passed."""
 
 LONGEST_NAME = 8
 
 
+def is_integer(value):
+    """True if a value is an integer."""
+    # True and False are ints in Python, but no integers of this package.
+    return isinstance(value, int) and not isinstance(value, bool)
+
+
 def is_integer_within(value, low, high):
     """True if a value is an integer from low to high."""
-    # True and False are ints in Python, but no integers of this package.
-    if not isinstance(value, int) or isinstance(value, bool):
-        return False
-    return low <= value <= high
+    return is_integer(value) and low <= value <= high
 
 
 def is_name(value):
@@ -17,3 +20,15 @@ def is_name(value):
         return False
     # Not isalpha and islower: they also accept letters beyond a to z.
     return all(["a" <= letter <= "z" for letter in value])
+
+
+def is_pair(value):
+    """True if a value is a tuple of two."""
+    return isinstance(value, tuple) and len(value) == 2
+
+
+def is_table(value, states):
+    """True if a value is a dict from just some states to integers."""
+    if not isinstance(value, dict) or len(value) != len(states):
+        return False
+    return all([state in value and is_integer(value[state]) for state in states])
