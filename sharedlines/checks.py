@@ -27,8 +27,18 @@ def is_pair(value):
     return isinstance(value, tuple) and len(value) == 2
 
 
+def is_fraction(value):
+    """True if a value is a tuple of two integers."""
+    return is_pair(value) and is_integer(value[0]) and is_integer(value[1])
+
+
+def has_just_keys(value, keys):
+    """True if a value is a dict with just some keys, each of which is given once."""
+    if not isinstance(value, dict) or len(value) != len(keys):
+        return False
+    return all([key in value for key in keys])
+
+
 def is_table(value, states):
     """True if a value is a dict from just some states to integers."""
-    if not isinstance(value, dict) or len(value) != len(states):
-        return False
-    return all([state in value and is_integer(value[state]) for state in states])
+    return has_just_keys(value, states) and all([is_integer(value[state]) for state in states])

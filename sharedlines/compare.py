@@ -1,10 +1,10 @@
 """Layouts of the same cells compared, and what lying together does in a run."""
 
 from sharedlines.errors import OtherCells
-from sharedlines.graphs import explore, run_to, shortest, totals_or_loop
+from sharedlines.graphs import run_to, shortest, totals_or_loop
 from sharedlines.layouts import own
-from sharedlines.moves import READ, WRITE, followed, joint_steps_ahead, lines_at_start, placed, places_at_start
-from sharedlines.steps import MOST_STATES, moves_of
+from sharedlines.moves import READ, WRITE, followed
+from sharedlines.steps import explored_jointly, moves_of
 
 
 class Touch:
@@ -97,9 +97,7 @@ def _explored_pairs(first, second, threads):
     """The graph of the pairs of states of two layouts that the same run can reach."""
     if first.cells() != second.cells():
         raise OtherCells()
-    sides = [placed(layout, threads) for layout in (first, second)]
-    start = (places_at_start(threads), (lines_at_start(first), lines_at_start(second)))
-    return explore(start, lambda state: joint_steps_ahead(sides, state), MOST_STATES)
+    return explored_jointly((first, second), threads)
 
 
 def _moves_of_both(layout, threads, run):

@@ -30,8 +30,19 @@ def lines_at_start(layout):
 def steps_ahead(nodes, state):
     """All steps from a state, as tuples (thread, target, moves, state behind)."""
     places, lines = state
-    return [(thread, target, moves[0], (behind[0], behind[1][0]))
-            for thread, target, moves, behind in joint_steps_ahead([nodes], (places, (lines,)))]
+    found = []
+    for thread, place in enumerate(places):
+        if place is not None:
+            node = nodes[thread][place]
+            moves, lines_behind = _touched(lines, thread, node)
+            for target in node[2]:
+                found.append((thread, target, moves, (_exchanged(places, thread, target), lines_behind)))
+    return found
+
+
+def joint_start(layouts, threads):
+    """The pair of the places and the tuple of the lines of each layout at the start."""
+    return (places_at_start(threads), tuple([lines_at_start(layout) for layout in layouts]))
 
 
 def joint_steps_ahead(sides, state):
@@ -41,16 +52,21 @@ def joint_steps_ahead(sides, state):
     of its moves in each of them.
     """
     places, lines_of_sides = state
+    rows = [steps_ahead(nodes, (places, lines)) for nodes, lines in zip(sides, lines_of_sides)]
     found = []
-    for thread, place in enumerate(places):
-        if place is not None:
-            touches = [_touched(lines, thread, nodes[thread][place])
-                       for nodes, lines in zip(sides, lines_of_sides)]
-            moves = tuple([touch[0] for touch in touches])
-            behind = tuple([touch[1] for touch in touches])
-            for target in sides[0][thread][place][2]:
-                found.append((thread, target, moves, (_exchanged(places, thread, target), behind)))
+    # The steps of all sides are the same, in the same order, but for what they do to lines.
+    for steps in zip(*rows):
+        thread, target, _, (places_behind, _) = steps[0]
+        moves = tuple([step[2] for step in steps])
+        found.append((thread, target, moves, (places_behind, tuple([step[3][1] for step in steps]))))
     return found
+
+
+def step_behind(nodes, state, thread, target):
+    """The moves of a step, and the state behind it."""
+    places, lines = state
+    moves, lines_behind = _touched(lines, thread, nodes[thread][places[thread]])
+    return (moves, (_exchanged(places, thread, target), lines_behind))
 
 
 def followed(layout, threads, run):
@@ -62,17 +78,27 @@ def followed(layout, threads, run):
     nodes = placed(layout, threads)
     if not isinstance(run, list):
         raise BadRun(0)
-    places, lines = places_at_start(threads), lines_at_start(layout)
+    state = (places_at_start(threads), lines_at_start(layout))
     found = []
     for index, step in enumerate(run):
+        places, _ = state
         if not _is_step(nodes, places, step):
             raise BadRun(index)
         thread, target = step
-        place = places[thread]
-        moves, lines = _touched(lines, thread, nodes[thread][place])
-        places = _exchanged(places, thread, target)
-        found.append((thread, place, moves, (places, lines)))
+        moves, state = step_behind(nodes, state, thread, target)
+        found.append((thread, places[thread], moves, state))
     return found
+
+
+def is_running(places, value):
+    """True if a value is the number of a thread that has not ended."""
+    return is_integer_within(value, 0, len(places) - 1) and places[value] is not None
+
+
+def is_target(targets, value):
+    """True if a value is one of some targets."""
+    # Only integers and None are looked up: False is 0, and True is 1.
+    return (value is None or is_integer(value)) and value in targets
 
 
 def _touched(lines, thread, node):
@@ -94,9 +120,4 @@ def _is_step(nodes, places, value):
     if not is_pair(value):
         return False
     thread, target = value
-    if not is_integer_within(thread, 0, len(places) - 1) or places[thread] is None:
-        return False
-    # Only integers and None are looked up: False is 0, and True is 1.
-    if target is not None and not is_integer(target):
-        return False
-    return target in nodes[thread][places[thread]][2]
+    return is_running(places, thread) and is_target(nodes[thread][places[thread]][2], target)

@@ -1,22 +1,22 @@
 """The greatest share of moves of all loops."""
 
-from math import gcd
-
 from sharedlines.checks import is_table
+from sharedlines.extremes import by_state
 from sharedlines.graphs import are_totals, gains_beyond, run_to, shortest, totals_or_loop
+from sharedlines.ratios import lowest
 from sharedlines.steps import explored
 
 
 def share(layout, threads):
     """The greatest share of all loops, or None if there is no loop."""
-    best_share, _, _ = _best(explored(layout, threads).steps)
+    best_share, _, _ = best_of(explored(layout, threads).steps)
     return best_share
 
 
 def loop(layout, threads):
     """A run and a loop behind it that has the greatest share, or None if there is no loop."""
     steps = explored(layout, threads).steps
-    _, ring, _ = _best(steps)
+    _, ring, _ = best_of(steps)
     if ring is None:
         return None
     first, _ = ring[0]
@@ -26,10 +26,10 @@ def loop(layout, threads):
 def weights(layout, threads):
     """Weights for the greatest share, or None if there is no loop."""
     graph = explored(layout, threads)
-    best_share, _, totals = _best(graph.steps)
+    best_share, _, totals = best_of(graph.steps)
     if best_share is None:
         return None
-    return {state: total for state, total in zip(graph.states, totals)}
+    return by_state(graph, totals)
 
 
 def are_weights(layout, threads, some_share, weights):
@@ -41,7 +41,7 @@ def are_weights(layout, threads, some_share, weights):
     return are_totals(gains_beyond(graph.steps, top, bottom), [weights[state] for state in graph.states])
 
 
-def _best(steps):
+def best_of(steps):
     """The greatest share, a loop that has it, and the weights for it, by the numbers of the states.
 
     The loop is a list of pairs (number of a state, index of its step). Without
@@ -61,6 +61,4 @@ def _best(steps):
 
 def _share_of(steps, ring):
     """The fraction of the moves and the steps of a loop."""
-    moves = sum([steps[number][index][2] for number, index in ring])
-    divisor = gcd(moves, len(ring))
-    return (moves // divisor, len(ring) // divisor)
+    return lowest(sum([steps[number][index][2] for number, index in ring]), len(ring))

@@ -3,7 +3,8 @@
 from sharedlines.checks import is_integer_within, is_pair
 from sharedlines.errors import BadState
 from sharedlines.graphs import explore
-from sharedlines.moves import followed, lines_at_start, placed, places_at_start, steps_ahead
+from sharedlines.moves import (
+    followed, joint_start, joint_steps_ahead, lines_at_start, placed, places_at_start, steps_ahead)
 
 MOST_STATES = 1000
 
@@ -46,11 +47,21 @@ def node_kinds(layout, threads):
             for of_free, of_paid in zip(free, paid)]
 
 
-def explored(layout, threads):
-    """The graph of the states that can be reached. Raises TooManyStates()."""
+def explored(layout, threads, most=MOST_STATES):
+    """The graph of the states that can be reached. Raises TooManyStates() if they are more than most."""
+    return explored_from(layout, threads, start(layout, threads), most)
+
+
+def explored_from(layout, threads, state, most=MOST_STATES):
+    """The graph of the states that can be reached from a state. Raises TooManyStates()."""
     nodes = placed(layout, threads)
-    first = (places_at_start(threads), lines_at_start(layout))
-    return explore(first, lambda state: steps_ahead(nodes, state), MOST_STATES)
+    return explore(state, lambda ahead: steps_ahead(nodes, ahead), most)
+
+
+def explored_jointly(layouts, threads, most=MOST_STATES):
+    """The graph of the joint states of some layouts, with tuples of moves. Raises TooManyStates()."""
+    sides = [placed(layout, threads) for layout in layouts]
+    return explore(joint_start(layouts, threads), lambda ahead: joint_steps_ahead(sides, ahead), most)
 
 
 def _kind(is_free, is_paid):

@@ -52,8 +52,13 @@ def ahead(layout, threads, state):
 
 def table(layout, threads):
     """A dict from the states that can be reached to their steps."""
+    return table_from(layout, threads, at_start(layout, threads))
+
+
+def table_from(layout, threads, first):
+    """A dict from the states that can be reached from one to their steps."""
     found = {}
-    todo = [at_start(layout, threads)]
+    todo = [first]
     while todo:
         state = todo.pop()
         if state not in found:
@@ -113,7 +118,7 @@ def rests(steps):
 
 
 def floors(steps):
-    found = {state: 0 if all(place is None for place in state[0]) else None for state in steps}
+    found = {state: None if row else 0 for state, row in steps.items()}
     changed = True
     while changed:
         changed = False
@@ -181,6 +186,107 @@ def kinds(steps, threads):
                         frozenset({0, 1}): "sometimes"}[frozenset(moves)])
         found.append(row)
     return found
+
+
+def all_lines(cells, room):
+    """The lines of all layouts of some cells and a room, by their numbers, then by themselves."""
+    found = []
+
+    def put(names, lines):
+        if not names:
+            found.append(tuple(sorted(tuple(sorted(line)) for line in lines)))
+            return
+        for line in lines:
+            put(names[1:], [other + [names[0]] if other is line else other for other in lines])
+        put(names[1:], lines + [[names[0]]])
+
+    put(list(cells), [])
+    kept = [lines for lines in found if all(sum(cells[name] for name in line) <= room for line in lines)]
+    return sorted(kept, key=lambda lines: (len(lines), lines))
+
+
+def keeps_turns(layout, threads, run, turn):
+    """True if a run keeps turns, told as point 13 tells it."""
+    _, states = follow(layout, threads, run)
+    for index, (thread, _) in enumerate(run):
+        others = [place for other, place in enumerate(states[index][0]) if other != thread]
+        if any(place is not None for place in others):
+            row = 0
+            while row < index and run[index - 1 - row][0] == thread:
+                row += 1
+            if row >= turn:
+                return False
+    return True
+
+
+def turn_table(layout, threads, turn):
+    """A dict from pairs of a state and the latest threads, not more than turn, to their steps."""
+    found = {}
+    todo = [(at_start(layout, threads), ())]
+    while todo:
+        state, latest = key = todo.pop()
+        if key not in found:
+            found[key] = []
+            for thread, target, moves, behind in ahead(layout, threads, state):
+                alone = all(place is None for other, place in enumerate(state[0]) if other != thread)
+                if alone or latest != (thread,) * turn:
+                    found[key].append((thread, target, moves, (behind, (latest + (thread,))[-turn:])))
+            assert len(found) <= 5 * MOST
+            todo.extend(step[3] for step in found[key])
+    return found
+
+
+def turn_states(steps, turn):
+    """The number of states that differ in the last thread, or in its steps in a row."""
+    found = set()
+    for state, latest in steps:
+        row = 0
+        while row < len(latest) and latest[-1 - row] == latest[-1]:
+            row += 1
+        found.add((state, latest[-1:], row))
+    return len(found)
+
+
+def behind_of(steps):
+    """A dict from each state to the set of those that can be reached from it, itself included."""
+    found = {}
+    for first in steps:
+        passed = {first}
+        todo = [first]
+        while todo:
+            for step in steps[todo.pop()]:
+                if step[3] not in passed:
+                    passed.add(step[3])
+                    todo.append(step[3])
+        found[first] = passed
+    return found
+
+
+def are_mean_rests(steps, threads, odds, means):
+    """True if a dict meets all that point 20 says, told with fractions."""
+    if set(means) != set(steps):
+        return False
+    reach = behind_of(steps)
+    moving = {state for state in steps if any(step[2] and state in reach[step[3]] for step in steps[state])}
+    bad = {state for state in steps if all(state in reach[other] for other in reach[state])
+           and any(other in moving for other in reach[state])}
+    for state, row in steps.items():
+        if reach[state] & bad:
+            if means[state] is not None:
+                return False
+        elif not any(step[2] for other in reach[state] for step in steps[other]):
+            if means[state] != (0, 1):
+                return False
+        else:
+            there = [thread for thread, place in enumerate(state[0]) if place is not None]
+            mean = 0
+            for thread, _, moves, behind in row:
+                targets = threads[thread].nodes[state[0][thread]][2]
+                chance = Fraction(odds[thread], sum(odds[other] for other in there)) / len(targets)
+                mean += chance * (moves + Fraction(*means[behind]))
+            if (mean.numerator, mean.denominator) != means[state]:
+                return False
+    return True
 
 
 def touched(layout, threads, states, run, index):

@@ -1,12 +1,13 @@
-"""Points 2, 3 and 18, and the order of errors, for all functions about states, runs and layouts compared."""
+"""Points 2, 3 and 18, and the order of errors, for all functions behind those of layouts and programs."""
 
 import copy
 import inspect
+import random
 import time
 import unittest
 
-from sharedlines import compare, greatest, shares, steps
-from sharedlines.errors import BadRun, BadState, LineError, OtherCells, TooManyStates, UnknownCell
+from sharedlines import compare, fewest, greatest, means, shares, steps, turns
+from sharedlines.errors import BadOdds, BadRun, BadState, LineError, OtherCells, TooManyStates, UnknownCell
 from sharedlines.layouts import Layout
 from tests import oracle
 from tests.cases import (
@@ -19,8 +20,9 @@ RINGS = parsed("write x -> 0 1\nwrite x", "write y -> 0")
 STATE = ((0, 0), (((), False),))
 RUN = [(0, 1), (1, None), (0, None)]
 SHARE = (1, 1)
+MODULES = (steps, greatest, shares, compare, fewest, turns, means)
 
-# Each function, the names of its parameters, and values for those behind the layout or layouts and the threads.
+# Each function, the names of its parameters, and values for those behind the layouts or cells and the threads.
 FUNCTIONS = [
     (steps.start, ["layout", "threads"], []),
     (steps.steps_from, ["layout", "threads", "state"], [STATE]),
@@ -45,14 +47,31 @@ FUNCTIONS = [
     (compare.together, ["layout", "threads", "run"], [RUN]),
     (compare.causes, ["layout", "threads", "run"], [RUN]),
     (compare.helpers, ["layout", "threads", "run"], [RUN]),
+    (fewest.fewest_lines, ["cells", "room", "threads", "bound"], [4]),
+    (fewest.shortfalls, ["cells", "room", "threads", "bound", "many"], [1, 3]),
+    (fewest.calmest, ["cells", "room", "threads"], []),
+    (turns.keeps_turns, ["layout", "threads", "run", "turn"], [RUN, 1]),
+    (turns.greatest_in_turns, ["layout", "threads", "turn"], [2]),
+    (turns.least_in_turns, ["layout", "threads", "turn"], [2]),
+    (turns.turn_run, ["layout", "threads", "turn"], [2]),
+    (means.mean_rests, ["layout", "threads", "odds"], [[1, 2]]),
+    (means.are_means, ["layout", "threads", "odds", "means"], [[1, 2], means.mean_rests(TOGETHER, THREADS, [1, 2])]),
 ]
 
 # Functions that look at one state or run only, so that other states do not matter to them.
-NOT_AT_ALL_RUNS = [steps.start, steps.steps_from, steps.moves_of, compare.together, compare.causes, compare.helpers]
+NOT_AT_ALL_RUNS = [steps.start, steps.steps_from, steps.moves_of, compare.together, compare.causes, compare.helpers,
+                   turns.keeps_turns]
+
+# Files with functions that look at 1,000 states of one layout or of two.
+AT_1000_STATES = [module.__name__ for module in (steps, greatest, shares, compare)]
 
 
 def arguments_of(names, layout, threads, others):
-    return [layout, layout, threads] if names[0] == "first" else [layout, threads, *others]
+    if names[0] == "first":
+        return [layout, layout, threads]
+    if names[0] == "cells":
+        return [layout.cells(), layout.room, threads, *others]
+    return [layout, threads, *others]
 
 
 def all_parts(value):
@@ -73,8 +92,7 @@ class Interface(unittest.TestCase):
         for function, names, _ in FUNCTIONS:
             with self.subTest(function.__name__):
                 self.assertEqual(list(inspect.signature(function).parameters), names)
-                place = [module for module in (steps, greatest, shares, compare)
-                         if module.__name__ == function.__module__]
+                place = [module for module in MODULES if module.__name__ == function.__module__]
                 self.assertIs(getattr(place[0], function.__name__), function)
 
     def test_arguments_by_position_or_by_name(self):
@@ -149,7 +167,7 @@ class OrderOfErrors(unittest.TestCase):
                     self.assertEqual(function(*given), ((0, 0, 0), (((), False), ((), False))))
                 else:
                     error = BadState if function is steps.steps_from else BadRun
-                    self.assertRaises(error, function, XY, MANY, None)
+                    self.assertRaises(error, function, XY, MANY, None, *others[1:])
 
     def test_a_call_that_raises_changes_nothing(self):
         for function, names, others in FUNCTIONS:
@@ -159,6 +177,52 @@ class OrderOfErrors(unittest.TestCase):
             self.assertEqual(given, before)
             given = arguments_of(names, TOGETHER, THREADS, others)
             self.assertEqual(function(*given), function(*given))
+
+
+class Again(unittest.TestCase):
+    def test_in_any_order_and_one_beside_the_other(self):
+        cases = [(TOGETHER, THREADS), (APART, THREADS), (TOGETHER, RINGS), (APART, RINGS)]
+        calls = [(function, arguments_of(names, layout, threads, others)) for function, names, others in FUNCTIONS
+                 for layout, threads in cases
+                 if function not in NOT_AT_ALL_RUNS or layout is TOGETHER and threads is THREADS]
+        expected = [function(*given) for function, given in calls]
+        order = random.Random(1).sample(range(len(calls)), len(calls))
+        for number in order + order[::-1]:
+            function, given = calls[number]
+            with self.subTest(function.__name__):
+                self.assertEqual(function(*given), expected[number])
+
+    def test_what_is_changed_in_place_is_looked_at_anew(self):
+        for function, names, others in FUNCTIONS:
+            if function in NOT_AT_ALL_RUNS:
+                continue
+            with self.subTest(function.__name__):
+                threads, values = list(THREADS), copy.deepcopy(others)
+                given = arguments_of(names, TOGETHER, threads, values)
+                first = function(*given)
+                threads[:] = RINGS
+                second = function(*given)
+                self.assertEqual(second, function(*arguments_of(names, TOGETHER, RINGS, values)))
+                threads[:] = THREADS
+                self.assertEqual(function(*given), first)
+
+    def test_tables_and_odds_that_are_changed_in_place(self):
+        for function, names, others in FUNCTIONS:
+            if names[-1] in ("bounds", "weights", "means"):
+                table = copy.deepcopy(others[-1])
+                given = arguments_of(names, TOGETHER, THREADS, [*others[:-1], table])
+                before = function(*given)
+                state = steps.start(TOGETHER, THREADS)
+                kept = table.pop(state)
+                self.assertIs(function(*given), False)
+                table[state] = kept
+                self.assertIs(function(*given), before)
+        odds = [1, 2]
+        first = means.mean_rests(TOGETHER, THREADS, odds)
+        odds[1] = 5
+        self.assertNotEqual(means.mean_rests(TOGETHER, THREADS, odds), first)
+        odds.append(1)
+        self.assertRaises(BadOdds, means.mean_rests, TOGETHER, THREADS, odds)
 
 
 class Facts(unittest.TestCase):
@@ -225,7 +289,8 @@ class Times(unittest.TestCase):
         for layout, threads in THOUSAND + [(XY, THOUSAND_PAIRS), (YZ, THOUSAND_PAIRS)]:
             table = {state: 0 for state in steps.reached(layout, threads)}
             for function, names, others in FUNCTIONS:
-                if function in (steps.steps_from, steps.moves_of, compare.together, compare.causes, compare.helpers):
+                # Others look at one run only, or their own tests tell how long they take.
+                if function in NOT_AT_ALL_RUNS or function.__module__ not in AT_1000_STATES:
                     continue
                 given = arguments_of(names, layout, threads, others[:-1] + [table] if others else [])
                 if names[0] == "first" and threads is THOUSAND_PAIRS:
