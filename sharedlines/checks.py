@@ -14,6 +14,12 @@ def is_integer_within(value, low, high):
     return is_integer(value) and low <= value <= high
 
 
+def is_one_of(value, choices):
+    """True if a value is one of some integers and None."""
+    # Only integers and None are looked up: False is 0, and True is 1.
+    return (value is None or is_integer(value)) and value in choices
+
+
 def is_name(value):
     """True if a value is a name of a cell."""
     if not isinstance(value, str) or not 1 <= len(value) <= LONGEST_NAME:

@@ -1,9 +1,9 @@
 """Live runs: cells are moved, and threads come and go, while the run goes on."""
 
-from sharedlines.checks import is_integer_within
+from sharedlines.checks import is_integer_within, is_one_of
 from sharedlines.errors import BadTarget, NameTaken, TooManyThreads, UnknownMark, UnknownThread
 from sharedlines.extremes import floors_of, rests_of
-from sharedlines.moves import NOT_HELD, is_target, lines_at_start, placed, step_behind
+from sharedlines.moves import NOT_HELD, lines_at_start, placed, step_behind
 from sharedlines.steps import explored_from
 
 MOST_THREADS = 3
@@ -65,7 +65,7 @@ class Live:
         """A thread makes a step to a target; its moves are returned."""
         thread = self._number_of(name)
         place = self._state[0][thread]
-        if place is None or not is_target(self._programs[thread].nodes[place][2], target):
+        if place is None or not is_one_of(target, self._programs[thread].nodes[place][2]):
             raise BadTarget()
         moves, self._state = step_behind(placed(self._layout, self._programs), self._state, thread, target)
         counts = list(self._counts)

@@ -1,6 +1,6 @@
 """What the steps of threads do to their places and to lines."""
 
-from sharedlines.checks import is_integer, is_integer_within, is_pair
+from sharedlines.checks import is_integer_within, is_one_of, is_pair
 from sharedlines.errors import BadRun
 
 READ = "read"
@@ -95,12 +95,6 @@ def is_running(places, value):
     return is_integer_within(value, 0, len(places) - 1) and places[value] is not None
 
 
-def is_target(targets, value):
-    """True if a value is one of some targets."""
-    # Only integers and None are looked up: False is 0, and True is 1.
-    return (value is None or is_integer(value)) and value in targets
-
-
 def _touched(lines, thread, node):
     """The moves when a thread carries out a node, and the lines behind it."""
     number, writes, _ = node
@@ -120,4 +114,4 @@ def _is_step(nodes, places, value):
     if not is_pair(value):
         return False
     thread, target = value
-    return is_running(places, thread) and is_target(nodes[thread][places[thread]][2], target)
+    return is_running(places, thread) and is_one_of(target, nodes[thread][places[thread]][2])

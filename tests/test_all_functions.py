@@ -6,7 +6,7 @@ import random
 import time
 import unittest
 
-from sharedlines import compare, fewest, greatest, means, shares, steps, turns
+from sharedlines import caps, compare, fewest, finding, greatest, hidden, means, shares, steps, turns
 from sharedlines.errors import BadOdds, BadRun, BadState, LineError, OtherCells, TooManyStates, UnknownCell
 from sharedlines.layouts import Layout
 from tests import oracle
@@ -20,7 +20,14 @@ RINGS = parsed("write x -> 0 1\nwrite x", "write y -> 0")
 STATE = ((0, 0), (((), False),))
 RUN = [(0, 1), (1, None), (0, None)]
 SHARE = (1, 1)
-MODULES = (steps, greatest, shares, compare, fewest, turns, means)
+MODULES = (steps, greatest, shares, compare, fewest, turns, means, caps, hidden, finding)
+
+
+def mixture_of(layout):
+    """A mixture of a layout, and of the own layout of its cells in a room of their greatest number."""
+    apart = Layout(layout.cells(), 6, [[cell] for cell in layout.cells()])
+    return hidden.Mixture([(1, layout), (2, apart)])
+
 
 # Each function, the names of its parameters, and values for those behind the layouts or cells and the threads.
 FUNCTIONS = [
@@ -56,6 +63,24 @@ FUNCTIONS = [
     (turns.turn_run, ["layout", "threads", "turn"], [2]),
     (means.mean_rests, ["layout", "threads", "odds"], [[1, 2]]),
     (means.are_means, ["layout", "threads", "odds", "means"], [[1, 2], means.mean_rests(TOGETHER, THREADS, [1, 2])]),
+    (caps.caps, ["layout", "threads", "by"], ["targets"]),
+    (caps.sparing, ["layout", "threads", "by"], ["targets"]),
+    (caps.pressing, ["layout", "threads", "by"], ["threads"]),
+    (caps.are_sparing, ["layout", "threads", "by", "table"], ["threads", caps.sparing(TOGETHER, THREADS, "threads")]),
+    (caps.are_pressing, ["layout", "threads", "by", "table"], ["threads", caps.pressing(TOGETHER, THREADS, "threads")]),
+    (hidden.blind, ["mixture", "threads"], []),
+    (hidden.revealed, ["mixture", "threads"], []),
+    (hidden.seeing, ["mixture", "threads"], []),
+    (hidden.blind_run, ["mixture", "threads"], []),
+    (hidden.blind_bounds, ["mixture", "threads"], []),
+    (hidden.are_blind_bounds, ["mixture", "threads", "bounds"], [hidden.blind_bounds(mixture_of(TOGETHER), THREADS)]),
+    (hidden.seeing_values, ["mixture", "threads"], []),
+    (hidden.are_seeing_bounds, ["mixture", "threads", "bounds"], [hidden.seeing_values(mixture_of(TOGETHER), THREADS)]),
+    (hidden.seeing_plan, ["mixture", "threads"], []),
+    (finding.finding, ["mixture", "threads"], []),
+    (finding.finding_numbers, ["mixture", "threads"], []),
+    (finding.are_finding_numbers, ["mixture", "threads", "numbers"],
+     [finding.finding_numbers(mixture_of(TOGETHER), THREADS)]),
 ]
 
 # Functions that look at one state or run only, so that other states do not matter to them.
@@ -69,6 +94,8 @@ AT_1000_STATES = [module.__name__ for module in (steps, greatest, shares, compar
 def arguments_of(names, layout, threads, others):
     if names[0] == "first":
         return [layout, layout, threads]
+    if names[0] == "mixture":
+        return [mixture_of(layout), threads, *others]
     if names[0] == "cells":
         return [layout.cells(), layout.room, threads, *others]
     return [layout, threads, *others]
@@ -208,11 +235,11 @@ class Again(unittest.TestCase):
 
     def test_tables_and_odds_that_are_changed_in_place(self):
         for function, names, others in FUNCTIONS:
-            if names[-1] in ("bounds", "weights", "means"):
+            if names[-1] in ("bounds", "weights", "means", "table", "numbers"):
                 table = copy.deepcopy(others[-1])
                 given = arguments_of(names, TOGETHER, THREADS, [*others[:-1], table])
                 before = function(*given)
-                state = steps.start(TOGETHER, THREADS)
+                state = list(table)[0]
                 kept = table.pop(state)
                 self.assertIs(function(*given), False)
                 table[state] = kept
