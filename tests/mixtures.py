@@ -42,6 +42,8 @@ BY_HAND = [
     (THREE, parsed("write x -> 1\nwrite y", "write z -> 0 end")),
     ([(1, OWN), (1, ONE)], parsed("read x -> 1 end\nread y -> 0", "read z -> 1\nread x -> 2\nwrite y")),
     ([(1, XY), (1, YZ)], parsed("write y -> 1\nwrite y -> 2\nwrite y", "write x", "write z")),
+    # There is no greatest number, but from where the first target leads there is one.
+    (TWO, parsed("read x -> 1 2\nread y\nwrite x -> 2", "write y -> 0")),
     STEPWISE,
 ]
 

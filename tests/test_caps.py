@@ -38,6 +38,8 @@ CAPS = [
     (APART, ["write x -> 1\nwrite y -> 0 1", "write y -> 0 end"], 4, 2),
     (TOGETHER, ["read x -> 0 1 2\nwrite y -> 0\nread y"], 1, 2),
     (XY, ["read x -> 1 2\nread z -> 0\nwrite x -> 0"], 2, 3),
+    # Thread 0 can also be sent to where moves would come for ever.
+    (TOGETHER, ["read x -> 0 1 end\nwrite x -> 1", "write y -> 0"], 3, 1),
     (XY, ["read x -> 1\nwrite z -> 0 end", "write z -> 1\nread x -> 0 end", "read z -> 0"], 7, 1),
 ]
 

@@ -42,14 +42,17 @@ def sizes_at_random():
     return found
 
 
-def lines_and_rests(cells, room, threads):
-    """For each layout a tuple of its lines, its greatest number and its greatest share."""
+def lines_and_rests(cells, room, threads, most=60):
+    """For each layout a tuple of its lines, its greatest number and its greatest share.
+
+    The share is told only where fewer than so many states can be reached.
+    """
     found = []
     for lines in oracle.all_lines(cells, room):
         layout = Layout(cells, room, [list(line) for line in lines])
         steps = oracle.table(layout, threads)
         first = oracle.at_start(layout, threads)
-        share = oracle.share(steps, first) if len(steps) < 60 else "long"
+        share = oracle.share(steps, first) if len(steps) < most else "long"
         found.append((lines, oracle.rests(steps)[first], share))
     return found
 
@@ -187,11 +190,22 @@ class Calmest(unittest.TestCase):
             (["read y -> 1\nwrite z -> 2\nwrite z -> 0", "write z -> 1\nwrite x -> 2\nwrite x -> 3\nread x -> 0"],
              [(5, 11), (3, 5), (14, 17), (4, 11)], (4, 11)),
         ):
-            told = lines_and_rests(SHORT, 2, parsed(*texts))
-            self.assertEqual([share for _, _, share in told], shares)
-            layout, share = calmest(SHORT, 2, parsed(*texts))
-            self.assertEqual(share, least)
-            self.assertIn((layout.lines, None, share), told)
+            self.check(2, texts, shares, least)
+
+    def check(self, room, texts, shares, least):
+        told = lines_and_rests(SHORT, room, parsed(*texts), 150)
+        self.assertEqual([share for _, _, share in told], shares)
+        layout, share = calmest(SHORT, room, parsed(*texts))
+        self.assertEqual(share, least)
+        self.assertIn((layout.lines, None, share), told)
+
+    def test_lying_together_can_be_calmer(self):
+        self.check(3, ["write x -> 1\nwrite y -> 2\nread z -> 0",
+                       "write z -> 1\nread z -> 2\nread y -> 3\nwrite y -> 4\nwrite x -> 5\nread x -> 0"],
+                   [(1, 1), (11, 12), (6, 7), (1, 1), (8, 9)], (6, 7))
+        self.check(3, ["write z -> 1\nread x -> 2\nwrite z -> 3\nread x -> 4\nwrite z -> 0",
+                       "read z -> 1\nwrite x -> 2\nread z -> 0"],
+                   [(10, 11), (18, 19), (18, 19), (10, 11), (18, 19)], (10, 11))
 
     def test_without_loops(self):
         found = calmest(XY_CELLS, 2, THREADS)

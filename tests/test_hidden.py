@@ -248,7 +248,7 @@ class Blind(unittest.TestCase):
                     for joint, row in table.items() for step in row)
                 counts[expected] += 1
                 self.assertIs(are_blind_bounds(mixture, threads, changed), expected)
-        self.assertGreater(min(counts.values()), 50)
+        self.assertGreater(min(counts.values()), 30)
 
     def test_parts_count(self):
         bounds = blind_bounds(PAIR, STRAIGHT)
@@ -310,7 +310,7 @@ class Seeing(unittest.TestCase):
                     for situation, row in table.items() for _, _, seen in row)
                 counts[expected] += 1
                 self.assertIs(are_seeing_bounds(mixture, threads, changed), expected)
-        self.assertGreater(min(counts.values()), 50)
+        self.assertGreater(min(counts.values()), 30)
 
     def test_plans(self):
         some = set()
